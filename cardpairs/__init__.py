@@ -1,0 +1,1 @@
+"""Pairs remembered: cards that lie face down, two of each picture."""
