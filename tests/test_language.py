@@ -2,6 +2,10 @@
 
 Where a rule lets a form that the package has no need of (try, lambda, sets, annotations,
 defs within defs, defs that call themselves, most methods with two underscores), the check is narrower than the rule.
+
+Some clauses are not looked at, and are left to the reader: defs that call themselves through
+others (L11), the whole list of frame names (L17), what stands as key=, reverse= and strict=
+(L22), and changes of a walked list under another name (L23).
 """
 
 import ast

@@ -121,7 +121,7 @@ class Alone(unittest.TestCase):
                 with self.subTest(n=n, k=k):
                     self.assertEqual(turns(ALONE, n, k, 0), fraction_row(best))
 
-    def test_no_more_than_always_bold_in_real_games(self):
+    def test_as_always_bold_in_real_games(self):
         for k in range(5):
             bold = played_average(4, k, lambda m, j: True)
             with self.subTest(k=k):
