@@ -18,8 +18,22 @@ def plus(one, other):
     return lowest(one[0] * other[1] + other[0] * one[1], one[1] * other[1])
 
 
+def opposite(one):
+    return (-one[0], one[1])
+
+
+def minus(one, other):
+    return plus(one, opposite(other))
+
+
 def smaller(one, other):
-    if one[0] * other[1] <= other[0] * one[1]:
+    if minus(other, one)[0] >= 0:
+        return one
+    return other
+
+
+def larger(one, other):
+    if minus(one, other)[0] >= 0:
         return one
     return other
 

@@ -7,9 +7,13 @@ COMES = 1
 SHOWS = 2
 ALONE = 3
 MEEK = 4
+BEST = 5
+LEAD = 6
+OVER = 7
+CHANCES = 8
 
 # How many whole numbers stand behind each call's own number, call by call.
-SIZES = (3, 1, 0, 0, 0)
+SIZES = (3, 1, 0, 0, 0, 0, 0, 1, 0, 0)
 
 
 def answer(board, call, told):
@@ -21,7 +25,17 @@ def answer(board, call, told):
         return board.shows()
     if call == ALONE:
         return board.alone()
-    return board.meek()
+    if call == MEEK:
+        return board.meek()
+    if call == BEST:
+        return board.best()
+    if call == LEAD:
+        return board.lead()
+    if call == OVER:
+        return board.over(told[0])
+    if call == CHANCES:
+        return board.chances()
+    return board.fewest()
 
 
 def answers(calls):

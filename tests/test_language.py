@@ -1,10 +1,10 @@
 """The package keeps to LANGUAGE.md, L1 to L28.
 
-Where a rule lets a form that the package has no need of (try, lambda, sets, annotations,
-defs within defs, defs that call themselves, most methods with two underscores), the check is narrower than the rule.
+Where a rule lets a form that the package has no need of (try, lambda, sets, annotations, key=,
+defs within defs, defs that call themselves or one another round, most methods with two
+underscores), the check is narrower than the rule.
 
-Some clauses are not looked at, and are left to the reader: defs that call themselves through
-others (L11), the whole list of frame names (L17), what stands as key=, reverse= and strict=
+Known not to be looked at, and left to the reader: which of Python's own kinds stand by isinstance
 (L22), and changes of a walked list under another name (L23).
 """
 
@@ -30,10 +30,9 @@ OWN_NAMES = set(
 )
 PYTHON_NAMES = set(dir(builtins))
 NOWHERE_NAMES = set(
-    "register mro elements open input version_info with_traceback add_note f_back f_code f_globals f_locals "
-    "f_builtins f_lineno f_trace tb_next tb_frame tb_lasti tb_lineno co_names co_code co_consts co_varnames "
-    "gi_frame cr_frame format format_map".split()
+    "register mro elements open input version_info with_traceback add_note format format_map".split()
 )
+FRAME_NAME = re.compile(r"(f|tb|co|gi|cr|ag)_")
 NOT_AS_NAMES = set(
     "attrgetter breakpoint builtins compile copyright credits delattr dir eval exec exit gc getattr globals "
     "hasattr help id importlib license locals methodcaller os quit setattr super type vars sys __name__".split()
@@ -57,8 +56,8 @@ WALKED = {"zip", "enumerate", "reversed", "range"}
 WALKED_METHODS = {"items", "keys", "values"}
 WALKERS = {"list", "tuple", "dict", "sorted", "sum", "any", "all", "enumerate", "zip"}
 KEYWORDS = {
-    "sorted": {"key", "reverse"}, "min": {"key", "default"}, "max": {"key", "default"},
-    "sum": {"start"}, "enumerate": {"start"}, "zip": {"strict"},
+    "sorted": {"reverse"}, "min": {"default"}, "max": {"default"}, "sum": {"start"}, "enumerate": {"start"},
+    "zip": {"strict"},
 }
 STATEMENTS = (
     ast.Assign, ast.AugAssign, ast.If, ast.While, ast.For, ast.Return, ast.Break, ast.Continue, ast.Pass, ast.Raise,
@@ -178,16 +177,37 @@ def check_round(modules):
     for name in drawn:
         if drawn[name]:
             drawn[name].add("cardpairs")
-    for name in drawn:
+    for name in round_again(drawn):
+        yield "L16", 1, "round: " + name
+
+
+def round_again(steps):
+    """Those from which steps lead back to themselves."""
+    for name in steps:
         seen = set()
-        ahead = list(drawn[name])
+        ahead = list(steps[name])
         while ahead:
             step = ahead.pop()
             if step not in seen:
                 seen.add(step)
-                ahead.extend(drawn.get(step, ()))
+                ahead.extend(steps.get(step, ()))
         if name in seen:
-            yield "L16", 1, "round: " + name
+            yield name
+
+
+def check_calls_round(modules):
+    """Defs and methods are told apart by their names alone."""
+    called = {}
+    for module in modules.values():
+        for node in module.of(ast.FunctionDef):
+            inner = called.setdefault(node.name, set())
+            for part in ast.walk(node):
+                if isinstance(part, ast.Name) and isinstance(part.ctx, ast.Load):
+                    inner.add(part.id)
+                if isinstance(part, ast.Attribute) and isinstance(part.ctx, ast.Load):
+                    inner.add(part.attr)
+    for name in round_again(called):
+        yield "L11", 1, "calls itself: " + name
 
 
 def check_defs(module):
@@ -201,8 +221,6 @@ def check_defs(module):
             yield "L4", node.lineno, "a default"
         if isinstance(module.parents[node], ast.FunctionDef):
             yield "L4", node.lineno, "a def within a def"
-        if any(called_name(part) == node.name for part in ast.walk(node)):
-            yield "L11", node.lineno, "calls itself"
         if node.returns or any(part.annotation for part in told.args):
             yield "L21", node.lineno, "an annotation"
         for name in [part.arg for part in told.args] + local_names(node):
@@ -268,8 +286,12 @@ def check_statements(module):
             yield "L19", node.lineno, "raise"
 
 
+def is_truth(node):
+    return isinstance(node, ast.Constant) and isinstance(node.value, bool)
+
+
 def is_none_or_truth(node):
-    return isinstance(node, ast.Constant) and (node.value is None or isinstance(node.value, bool))
+    return is_truth(node) or isinstance(node, ast.Constant) and node.value is None
 
 
 def check_expressions(module):
@@ -316,7 +338,7 @@ def check_names(module):
     for place, name, node in all_identifiers(module):
         if not PLAIN_NAME.match(name) and name not in ("__init__", "__all__", "__version__", "__name__"):
             yield "L12", place, name
-        if name in NOWHERE_NAMES:
+        if name in NOWHERE_NAMES or FRAME_NAME.match(name):
             yield "L17", place, name
     for node in module.of(ast.Name):
         if node.id in NOT_AS_NAMES:
@@ -343,6 +365,8 @@ def check_calls(module, methods, values):
             if keyword.arg is None:
                 yield "L7", node.lineno, "a star"
             elif is_pythons and keyword.arg not in KEYWORDS.get(name, ()):
+                yield "L22", node.lineno, keyword.arg
+            elif is_pythons and keyword.arg in ("reverse", "strict") and not is_truth(keyword.value):
                 yield "L22", node.lineno, keyword.arg
         is_walked = name in WALKED
         if isinstance(node.func, ast.Attribute):
@@ -440,6 +464,7 @@ def check_package(texts):
     found = [("L18", 1, name) for name in sorted(methods & values)]
     found += [("L26", 1, name) for name in sorted(values & TAKEN_VALUES)]
     found += check_round(modules)
+    found += check_calls_round(modules)
     for name, module in modules.items():
         for check in (check_text, check_top, check_defs, check_classes, check_statements, check_expressions,
                       check_names, check_loops):
@@ -523,6 +548,8 @@ BREACHES = [
     ("L10", "# a\n" * 401),
     ("L10", "# " + "a" * 119 + "\n"),
     ("L11", "def f(x):\n    return f(x - 1) if x else 0\n"),
+    ("L11", "def f(x):\n    return g(x - 1) if x else 0\n\n\ndef g(x):\n    return f(x)\n"),
+    ("L11", "class A:\n    def f(self):\n        return g(self)\n\n\ndef g(a):\n    return a.f()\n"),
     ("L12", "def _f(x):\n    return x\n"),
     ("L12", "def f(x):\n    for _ in x:\n        pass\n"),
     ("L13", "def f(x):\n    return x == {1, 2, 3}\n"),
@@ -540,6 +567,8 @@ BREACHES = [
     ("L16", "from cardpairs.other import given as taken\n"),
     ("L17", "def f(x):\n    return getattr(x, 'y')\n"),
     ("L17", "def f(x):\n    return open(x)\n"),
+    ("L17", "def f(x):\n    return x.f_back\n"),
+    ("L17", "def f(x):\n    tb_lineno = x\n    return tb_lineno\n"),
     ("L17", "# the type of it\n"),
     ("L18", "class A:\n    def f(self):\n        return A\n"),
     ("L18", "class A:\n    def f(self):\n        self.f = 1\n"),
@@ -553,6 +582,9 @@ BREACHES = [
     ("L21", "def f(x):\n    y: int = x\n    return y\n"),
     ("L22", "def f(x):\n    g = len\n    return g(x)\n"),
     ("L22", "def f(x):\n    return int(x, base=2)\n"),
+    ("L22", "def f(x, y):\n    return sorted(x, key=y)\n"),
+    ("L22", "def f(x, y):\n    return sorted(x, reverse=y)\n"),
+    ("L22", "def f(x, y):\n    return list(zip(x, y, strict=1))\n"),
     ("L23", "def f(x):\n    y = range(x)\n    return y\n"),
     ("L23", "def f(x):\n    return reversed(range(x))\n"),
     ("L23", "def f(x):\n    for y in x:\n        x.append(y)\n"),

@@ -6,52 +6,13 @@ import unittest
 from fractions import Fraction
 from functools import lru_cache
 
-from helper import ALL_PLACES, ALL_TABLES, ALONE, COMES, MEEK, SHOWS, TABLE, ask
-
-
-def orders(left):
-    """Every order of the cards that aren't known; left[p] cards of picture p."""
-    if not any(left):
-        yield ()
-        return
-    for picture, many in enumerate(left):
-        if many:
-            fewer = left[:picture] + (many - 1,) + left[picture + 1:]
-            for rest in orders(fewer):
-                yield (picture,) + rest
-
-
-def played(order, k, is_bold):
-    """The turns of one real game, card by card."""
-    known = set(range(k))
-    pictures = set(order)
-    place = turns = both_known = 0
-    while place < len(order):
-        turns += 1
-        first = order[place]
-        place += 1
-        if first in known:
-            known.remove(first)
-            pictures.remove(first)
-            continue
-        choose_bold = is_bold(len(pictures), len(known))
-        known.add(first)
-        if not choose_bold:
-            continue
-        second = order[place]
-        place += 1
-        if second in known:
-            known.remove(second)
-            pictures.remove(second)
-            both_known += second != first
-        else:
-            known.add(second)
-    return turns + both_known
+from helper import (
+    ALL_PLACES, ALL_TABLES, ALONE, COMES, MEEK, SHOWS, TABLE, ask, cards_left, fraction_row, orders, played,
+)
 
 
 def played_average(n, k, is_bold):
-    left = (1,) * k + (2,) * (n - k)
-    games = [played(order, k, is_bold) for order in orders(left)]
+    games = [played(order, k, is_bold) for order in orders(cards_left(n, k))]
     return Fraction(sum(games), len(games))
 
 
@@ -78,10 +39,6 @@ def fewest(n, k):
 
 def turns(call, n, k, c):
     return ask((TABLE, n, k, c), (call,))[1]
-
-
-def fraction_row(value):
-    return [0, value.numerator, value.denominator]
 
 
 class Alone(unittest.TestCase):
